@@ -1,0 +1,1 @@
+"""Freshreach: pages asked over a net, whole and fresh or told broken."""
