@@ -1,4 +1,6 @@
-"""Questions, of anything, that several modules ask about what is handed in."""
+"""Questions, of anything, that several modules ask about what is handed in, and the refusal that they share."""
+
+from freshreach.errors import NoMoment
 
 
 def is_whole(thing):
@@ -8,6 +10,15 @@ def is_whole(thing):
 
 def is_within(thing, least, most):
     return is_whole(thing) and least <= thing <= most
+
+
+def is_from(thing, least):
+    return is_whole(thing) and thing >= least
+
+
+def is_place(thing):
+    """Whether it is a place of some plan, which one is not known."""
+    return is_within(thing, 0, 7)
 
 
 def is_letters(thing, least, most):
@@ -29,3 +40,9 @@ def is_tuple(thing, least, most):
 
 def rises(rows):
     return all([lesser < greater for lesser, greater in zip(rows, rows[1:])])
+
+
+def check_moment(moment, last):
+    """Refuses what is no moment, or is one that is earlier than the last."""
+    if not is_from(moment, last):
+        raise NoMoment("no moment from the last one on was handed in")

@@ -88,10 +88,15 @@ def is_name_row(thing, roles):
 
 
 def is_page_row(thing, roles):
-    if not is_tuple(thing, 4, 4):
+    return is_tuple(thing, 4, 4) and is_house(thing[0], roles) and is_own_page(thing[1:])
+
+
+def is_own_page(thing):
+    """Whether it is a page as its house has it: (page, text, age)."""
+    if not is_tuple(thing, 3, 3):
         return False
-    house, page, text, age = thing
-    return is_house(house, roles) and is_word(page) and is_page_text(text) and is_age(age)
+    page, text, age = thing
+    return is_word(page) and is_page_text(text) and is_age(age)
 
 
 def are_bounds(thing):
@@ -101,8 +106,8 @@ def are_bounds(thing):
     return (
         is_size(size)
         and is_within(wait, 1, 40)
-        and is_within(rest, 1, 60)
-        and is_within(numbers, 1, 4)
+        and is_rest(rest)
+        and are_numbers(numbers)
         and is_within(room, 1, 4)
     )
 
@@ -121,6 +126,15 @@ def is_page_text(thing):
 
 def is_size(thing):
     return is_within(thing, 1, 4) or is_within(thing, 16, 16)
+
+
+def is_rest(thing):
+    return is_within(thing, 1, 60)
+
+
+def are_numbers(thing):
+    """Whether it is how many numbers a door may give."""
+    return is_within(thing, 1, 4)
 
 
 def is_weather_row(thing):

@@ -121,3 +121,30 @@ def all_ways(plan, one, other, cuts):
 def long_of(plan, way):
     longs = {(one, other): long for one, other, long in plan[1]}
     return sum([longs[min(step), max(step)] for step in zip(way, way[1:])])
+
+
+# Kinds of which [2] doesn't speak: refused all the same where a refusal is told.
+STRANGE_THINGS = [1.0, 0.5, b"a", {0}, frozenset(["a"]), range(2), len, object()]
+
+
+def no_wholes(least, most=None):
+    """Things that are no whole number from least on, and up to most where it is told."""
+    beyond = [least - 1, least - 2, -LONGEST_NUMBER]
+    if most is not None:
+        beyond += [most + 1, most + 2, LONGEST_NUMBER]
+    return beyond + [thing for thing in THINGS + STRANGE_THINGS if type(thing) is not int]
+
+
+NO_MOMENTS = no_wholes(0)
+NO_LETTERS = [thing for thing in THINGS + STRANGE_THINGS if thing not in ("", "a", "abcde")]
+NO_LETTERS += ["a" * 17, "Abc", "abC", "a b", " a", "a ", "a\n", "a1", "a-", "a_", "`", "{", "\u00e4", "\u03b1", ("a",)]
+NO_WORDS = NO_LETTERS + ["", "abcdefghi", ["a"], {"a": "a"}]
+
+
+def error_of(call, *told, **named):
+    """The class of the error by which the call is refused, None where it isn't."""
+    try:
+        call(*told, **named)
+    except ValueError as error:
+        return type(error)
+    return None

@@ -1,4 +1,4 @@
-"""What can be seen at a glance of ../shared/LANGUAGE.md: files, imports, sizes, signs and barred words."""
+"""What can be seen at a glance of ../shared/LANGUAGE.md: files, imports, sizes, signs, names and barred words."""
 
 import ast
 import pathlib
@@ -64,6 +64,26 @@ class TestLanguage(unittest.TestCase):
                     own = getattr(node, field, None)
                     if isinstance(own, str):
                         self.assertRegex(own, r"\A([A-Za-z][A-Za-z0-9_.]*|__[a-z]+__)\Z", name)
+
+    def test_no_name_is_a_method_and_an_attribute(self):
+        methods, assigned, read = set(), set(), set()
+        for name, text in each_file():
+            tree = ast.parse(text)
+            called = {id(node.func) for node in ast.walk(tree) if isinstance(node, ast.Call)}
+            for node in ast.walk(tree):
+                if isinstance(node, ast.ClassDef):
+                    methods.update([part.name for part in node.body if isinstance(part, ast.FunctionDef)])
+                if isinstance(node, ast.Attribute) and isinstance(node.ctx, ast.Store):
+                    assigned.add(node.attr)
+                if isinstance(node, ast.Attribute) and isinstance(node.ctx, ast.Load) and id(node) not in called:
+                    read.add(node.attr)
+        self.assertEqual(methods & assigned, set())
+        self.assertEqual(read - assigned, set())
+
+    def test_lists_in_place_of_generators(self):
+        for name, text in each_file():
+            for node in ast.walk(ast.parse(text)):
+                self.assertNotIsInstance(node, (ast.GeneratorExp, ast.Yield, ast.YieldFrom), name)
 
 
 if __name__ == "__main__":
