@@ -1,6 +1,6 @@
 """Plans and weathers: what a net is made of."""
 
-from freshreach.errors import NoPlan
+from freshreach.errors import NoPlan, NoWeather
 from freshreach.kinds import is_letters, is_tuple, is_within, is_word, rises
 
 ROLES = ("house", "door", "book", "cross")
@@ -32,6 +32,11 @@ def is_weather(thing):
 def check_plan(plan):
     if not is_plan(plan):
         raise NoPlan("no plan was handed in")
+
+
+def check_weather(weather):
+    if not is_weather(weather):
+        raise NoWeather("no weather was handed in")
 
 
 def are_roles(thing):
@@ -108,12 +113,20 @@ def are_bounds(thing):
         and is_within(wait, 1, 40)
         and is_rest(rest)
         and are_numbers(numbers)
-        and is_within(room, 1, 4)
+        and is_room(room)
     )
 
 
 def is_house(thing, roles):
-    return is_within(thing, 0, len(roles) - 1) and roles[thing] == "house"
+    return has_role(thing, roles, "house")
+
+
+def is_door(thing, roles):
+    return has_role(thing, roles, "door")
+
+
+def has_role(thing, roles, role):
+    return is_within(thing, 0, len(roles) - 1) and roles[thing] == role
 
 
 def is_age(thing):
@@ -134,6 +147,11 @@ def is_rest(thing):
 
 def are_numbers(thing):
     """Whether it is how many numbers a door may give."""
+    return is_within(thing, 1, 4)
+
+
+def is_room(thing):
+    """Whether it is how many entries a near keep may keep."""
     return is_within(thing, 1, 4)
 
 

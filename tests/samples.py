@@ -31,6 +31,15 @@ APART = (
     (2, 9, 9, 2, 2),
 )
 
+# Two doors, two houses and the book between them: whole runs are written down by it.
+TOWN = (
+    ("door", "book", "house", "house", "door"),
+    ((0, 1, 1), (0, 2, 2), (0, 3, 3), (1, 4, 2), (2, 4, 1)),
+    (("home", 2, 10), ("shop", 3, 99)),
+    ((2, "news", "abc", 8), (2, "note", "", 4), (3, "news", "xyz", 99)),
+    (2, 5, 12, 2, 2),
+)
+
 LONGEST_NUMBER = 10 ** 30 - 1
 
 
