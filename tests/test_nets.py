@@ -271,6 +271,15 @@ class TestDeeds(unittest.TestCase):
                 self.assertIs(error_of(call, place, place), NoPlace, repr(place)[:300])
         self.assertEqual(net.log(), [])
 
+    def test_the_last_place_of_each_plan(self):
+        for plan in (SMALL, APART, GREAT, TOWN):
+            for word in ("cut", "mend", "bar", "free"):
+                call, last = getattr(Net(plan), word), len(plan[0]) - 1
+                self.assertIn(error_of(call, 0, last), (None, NoRoad))
+                self.assertIn(error_of(call, last, 0), (None, NoRoad))
+                self.assertIs(error_of(call, 0, last + 1), NoPlace)
+                self.assertIs(error_of(call, last + 1, 0), NoPlace)
+
     def test_cut_anew_and_mended_anew(self):
         net = Net(TOWN)
         do_all(net, [("cut", 0, 1), ("cut", 0, 1), ("mend", 0, 1), ("mend", 0, 1), ("mend", 0, 2)])
